@@ -1,0 +1,48 @@
+// Package check has the checks of numbers and spans that all layers share.
+package check
+
+import "sastrugi/api"
+
+// First returns the first error of a list, or OK. (They are all found before it is called, so none of them may panic where an earlier one fails.)
+func First(list ...api.Errno) api.Errno {
+	for _, e := range list {
+		if e != api.OK {
+			return e
+		}
+	}
+	return api.OK
+}
+
+// Number returns ErrRange unless n is from low to high.
+func Number(n, low, high int) api.Errno {
+	if n < low || n > high {
+		return api.ErrRange
+	}
+	return api.OK
+}
+
+// Order returns ErrOrder unless things are in order.
+func Order(good bool) api.Errno {
+	if !good {
+		return api.ErrOrder
+	}
+	return api.OK
+}
+
+// Most returns ErrFull if there are more than most of something.
+func Most(n, most int) api.Errno {
+	if n > most {
+		return api.ErrFull
+	}
+	return api.OK
+}
+
+// Range returns ErrRange unless both numbers of s are from low to high.
+func Range(s api.Span, low, high int) api.Errno {
+	return First(Number(s.Lo, low, high), Number(s.Hi, low, high))
+}
+
+// Span returns the error of Range, then ErrOrder if Lo is above Hi.
+func Span(s api.Span, low, high int) api.Errno {
+	return First(Range(s, low, high), Order(s.Lo <= s.Hi))
+}

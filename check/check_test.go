@@ -1,0 +1,61 @@
+package check
+
+import (
+	"testing"
+
+	"sastrugi/api"
+)
+
+func TestFirstIsTheLeftmostError(t *testing.T) {
+	for _, c := range []struct {
+		list []api.Errno
+		want api.Errno
+	}{
+		{nil, api.OK},
+		{[]api.Errno{api.OK, api.OK}, api.OK},
+		{[]api.Errno{api.OK, api.ErrOrder, api.ErrRange}, api.ErrOrder},
+	} {
+		if e := First(c.list...); e != c.want {
+			t.Errorf("First(%v) = %v, want %v", c.list, e, c.want)
+		}
+	}
+}
+
+func TestNumbersAndCounts(t *testing.T) {
+	for _, c := range []struct {
+		n    int
+		want api.Errno
+	}{{-1, api.ErrRange}, {0, api.OK}, {9, api.OK}, {10, api.ErrRange}} {
+		if e := Number(c.n, 0, 9); e != c.want {
+			t.Errorf("Number(%d) = %v, want %v", c.n, e, c.want)
+		}
+	}
+	if Most(3, 3) != api.OK || Most(4, 3) != api.ErrFull {
+		t.Error("Most has a wrong bound")
+	}
+	if Order(true) != api.OK || Order(false) != api.ErrOrder {
+		t.Error("Order is wrong")
+	}
+}
+
+func TestSpanChecksItsNumbersBeforeTheirOrder(t *testing.T) {
+	for _, c := range []struct {
+		s            api.Span
+		span, range_ api.Errno
+	}{
+		{api.Span{Lo: 0, Hi: 9}, api.OK, api.OK},
+		{api.Span{Lo: 5, Hi: 5}, api.OK, api.OK},
+		{api.Span{Lo: 5, Hi: 4}, api.ErrOrder, api.OK},
+		{api.Span{Lo: 5, Hi: -1}, api.ErrRange, api.ErrRange},
+		{api.Span{Lo: 10, Hi: 9}, api.ErrRange, api.ErrRange},
+		{api.Span{Lo: -1, Hi: 9}, api.ErrRange, api.ErrRange},
+		{api.Span{Lo: 0, Hi: 10}, api.ErrRange, api.ErrRange},
+	} {
+		if e := Span(c.s, 0, 9); e != c.span {
+			t.Errorf("Span(%v) = %v, want %v", c.s, e, c.span)
+		}
+		if e := Range(c.s, 0, 9); e != c.range_ {
+			t.Errorf("Range(%v) = %v, want %v", c.s, e, c.range_)
+		}
+	}
+}

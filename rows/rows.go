@@ -1,0 +1,44 @@
+// Package rows reads texts that consist of rows of words, with one blank between two words and a line feed behind each row.
+package rows
+
+import "strings"
+
+// Each hands the words of each row to take, in order, and returns the number of the first row (from 1 on) that take does not accept, or that has no line feed; 0 if there is none.
+func Each(text string, take func(words []string) bool) int {
+	for row := 1; text != ""; row++ {
+		line, rest, ended := strings.Cut(text, "\n")
+		if !ended || !take(strings.Split(line, " ")) {
+			return row
+		}
+		text = rest
+	}
+	return 0
+}
+
+// Line returns words as a row.
+func Line(words []string) string { return strings.Join(words, " ") + "\n" }
+
+// Natural reads a number without a sign and without needless zeros that has at most so many digits (which must fit into an int).
+func Natural(word string, digits int) (int, bool) {
+	if word == "" || len(word) > digits || word[0] == '0' && word != "0" {
+		return 0, false
+	}
+	n := 0
+	for i := range len(word) {
+		if word[i] < '0' || word[i] > '9' {
+			return 0, false
+		}
+		n = 10*n + int(word[i]-'0')
+	}
+	return n, true
+}
+
+// Integer reads a number as Natural does, but with a - if it is below 0.
+func Integer(word string, digits int) (int, bool) {
+	rest, below := strings.CutPrefix(word, "-")
+	n, ok := Natural(rest, digits)
+	if !below {
+		return n, ok
+	}
+	return -n, ok && n > 0
+}

@@ -1,0 +1,77 @@
+package rows
+
+import (
+	"slices"
+	"strings"
+	"testing"
+)
+
+func TestEachHandsOutRowsUntilOneIsWrong(t *testing.T) {
+	for _, c := range []struct {
+		text string
+		row  int
+		took string
+	}{
+		{"", 0, ""},
+		{"a b\nc\n", 0, "a,b|c|"},
+		{"a b\nc", 2, "a,b|"},
+		{"a\nbad\nc\n", 2, "a|bad|"},
+		{"\n", 0, "|"},
+		{"a  b\n b \n", 0, "a,,b|,b,|"},
+		{"bad", 1, ""},
+	} {
+		took := ""
+		row := Each(c.text, func(words []string) bool {
+			took += strings.Join(words, ",") + "|"
+			return !slices.Contains(words, "bad")
+		})
+		if row != c.row || took != c.took {
+			t.Errorf("Each(%q) = %d, took %q, want %d, %q", c.text, row, took, c.row, c.took)
+		}
+	}
+}
+
+func TestLineIsWhatEachReads(t *testing.T) {
+	text := Line([]string{"day", "1"}) + Line([]string{"x"})
+	if text != "day 1\nx\n" {
+		t.Errorf("%q", text)
+	}
+}
+
+func TestNumbers(t *testing.T) {
+	for _, c := range []struct {
+		word             string
+		n                int
+		natural, integer bool
+	}{
+		{"0", 0, true, true},
+		{"7", 7, true, true},
+		{"123456", 123456, true, true},
+		{"-123456", -123456, false, true},
+		{"-1", -1, false, true},
+		{"1234567", 0, false, false},
+		{"-1234567", 0, false, false},
+		{"", 0, false, false},
+		{"-", 0, false, false},
+		{"-0", 0, false, false},
+		{"00", 0, false, false},
+		{"01", 0, false, false},
+		{"-01", 0, false, false},
+		{"--1", 0, false, false},
+		{"+1", 0, false, false},
+		{"1x", 0, false, false},
+		{"1/", 0, false, false},
+		{"1:", 0, false, false},
+		{"١", 0, false, false},
+	} {
+		if n, ok := Natural(c.word, 6); ok != c.natural || ok && n != c.n || !ok && n != 0 {
+			t.Errorf("Natural(%q) = %d, %v", c.word, n, ok)
+		}
+		if n, ok := Integer(c.word, 6); ok != c.integer || ok && n != c.n || !ok && n != 0 {
+			t.Errorf("Integer(%q) = %d, %v", c.word, n, ok)
+		}
+	}
+	if n, ok := Natural("999999999999999999", 18); n != 999999999999999999 || !ok {
+		t.Error(n, ok)
+	}
+}
