@@ -29,6 +29,30 @@ func Order(good bool) api.Errno {
 	return api.OK
 }
 
+// Kind returns ErrKind unless kind is from 1 to the last kind.
+func Kind(kind, last int) api.Errno {
+	if kind < 1 || kind > last {
+		return api.ErrKind
+	}
+	return api.OK
+}
+
+// Index returns ErrMissing unless n is one of so many things, which are numbered from 0 on.
+func Index(n, count int) api.Errno {
+	if n < 0 || n >= count {
+		return api.ErrMissing
+	}
+	return api.OK
+}
+
+// Some returns ErrShort if there is nothing of something.
+func Some(n int) api.Errno {
+	if n < 1 {
+		return api.ErrShort
+	}
+	return api.OK
+}
+
 // Most returns ErrFull if there are more than most of something.
 func Most(n, most int) api.Errno {
 	if n > most {

@@ -33,8 +33,34 @@ func TestNumbersAndCounts(t *testing.T) {
 	if Most(3, 3) != api.OK || Most(4, 3) != api.ErrFull {
 		t.Error("Most has a wrong bound")
 	}
+	if Some(1) != api.OK || Some(0) != api.ErrShort {
+		t.Error("Some has a wrong bound")
+	}
 	if Order(true) != api.OK || Order(false) != api.ErrOrder {
 		t.Error("Order is wrong")
+	}
+}
+
+func TestKindsAreFromOneOnAndIndicesFromZero(t *testing.T) {
+	for _, c := range []struct {
+		n           int
+		kind, index api.Errno
+	}{
+		{-1, api.ErrKind, api.ErrMissing},
+		{0, api.ErrKind, api.OK},
+		{1, api.OK, api.OK},
+		{3, api.OK, api.ErrMissing},
+		{4, api.ErrKind, api.ErrMissing},
+	} {
+		if e := Kind(c.n, 3); e != c.kind {
+			t.Errorf("Kind(%d) = %v, want %v", c.n, e, c.kind)
+		}
+		if e := Index(c.n, 3); e != c.index {
+			t.Errorf("Index(%d) = %v, want %v", c.n, e, c.index)
+		}
+	}
+	if Index(0, 0) != api.ErrMissing {
+		t.Error("there is an index of nothing")
 	}
 }
 

@@ -19,10 +19,7 @@ func Check(l api.Frost) api.Errno {
 
 // checkCovers returns the first error of a law's covers.
 func checkCovers(covers []api.Cover) api.Errno {
-	if len(covers) == 0 {
-		return api.ErrShort
-	}
-	if e := check.Most(len(covers), api.MaxCovers); e != api.OK {
+	if e := check.First(check.Some(len(covers)), check.Most(len(covers), api.MaxCovers)); e != api.OK {
 		return e
 	}
 	if e := checkCover(covers[0], covers[0].Depth == 0, api.Span{Lo: api.Mil, Hi: api.Mil}); e != api.OK {

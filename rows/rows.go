@@ -1,7 +1,10 @@
 // Package rows reads texts that consist of rows of words, with one blank between two words and a line feed behind each row.
 package rows
 
-import "strings"
+import (
+	"strconv"
+	"strings"
+)
 
 // Each hands the words of each row to take, in order, and returns the number of the first row (from 1 on) that take does not accept, or that has no line feed; 0 if there is none.
 func Each(text string, take func(words []string) bool) int {
@@ -17,6 +20,29 @@ func Each(text string, take func(words []string) bool) int {
 
 // Line returns words as a row.
 func Line(words []string) string { return strings.Join(words, " ") + "\n" }
+
+// Write returns a row that has a name and numbers.
+func Write(name string, numbers ...int) string {
+	words := []string{name}
+	for _, n := range numbers {
+		words = append(words, strconv.Itoa(n))
+	}
+	return Line(words)
+}
+
+// Read reads the words of a row that has a name and numbers, each as Natural does, and tells whether it is one.
+func Read(words []string, name string, digits int, numbers ...*int) bool {
+	if len(words) != len(numbers)+1 || words[0] != name {
+		return false
+	}
+	for i, n := range numbers {
+		var ok bool
+		if *n, ok = Natural(words[i+1], digits); !ok {
+			return false
+		}
+	}
+	return true
+}
 
 // Natural reads a number without a sign and without needless zeros that has at most so many digits (which must fit into an int).
 func Natural(word string, digits int) (int, bool) {

@@ -38,6 +38,39 @@ func TestLineIsWhatEachReads(t *testing.T) {
 	}
 }
 
+func TestRowsOfANameAndNumbers(t *testing.T) {
+	if row := Write("echo", 1, -20, 0); row != "echo 1 -20 0\n" {
+		t.Errorf("%q", row)
+	}
+	if row := Write("end"); row != "end\n" {
+		t.Errorf("%q", row)
+	}
+	for _, c := range []struct {
+		row string
+		ok  bool
+	}{
+		{"echo 1 20", true},
+		{"echo 0 99", true},
+		{"echo 1", false},
+		{"echo 1 2 3", false},
+		{"radar 1 20", false},
+		{"echo 1 02", false},
+		{"echo 1 -2", false},
+		{"echo 100 2", false},
+		{"echo 1 ", false},
+		{"", false},
+	} {
+		var a, b int
+		words := strings.Split(c.row, " ")
+		if ok := Read(words, "echo", 2, &a, &b); ok != c.ok || ok && Write("echo", a, b) != c.row+"\n" {
+			t.Errorf("Read(%q) = %v: %d %d", c.row, ok, a, b)
+		}
+	}
+	if !Read([]string{"end"}, "end", 2) || Read(nil, "end", 2) {
+		t.Error("a row without numbers is read wrongly")
+	}
+}
+
 func TestNumbers(t *testing.T) {
 	for _, c := range []struct {
 		word             string

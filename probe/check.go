@@ -1,0 +1,110 @@
+package probe
+
+import (
+	"sastrugi/api"
+	"sastrugi/check"
+)
+
+// Check returns the first error of a survey, otherwise OK.
+func Check(s api.Survey) api.Errno {
+	if e := check.First(check.Some(len(s.Reaches)), check.Most(len(s.Reaches), api.MaxReaches)); e != api.OK {
+		return e
+	}
+	long := 0
+	for _, r := range s.Reaches {
+		if e := checkReach(r); e != api.OK {
+			return e
+		}
+		long += r.Long
+	}
+	if e := check.Most(long, api.MaxPlaces); e != api.OK {
+		return e
+	}
+	for _, far := range s.Sight {
+		if e := check.Number(far, 0, api.MaxSight); e != api.OK {
+			return e
+		}
+	}
+	return api.OK
+}
+
+func checkReach(r api.Reach) api.Errno {
+	return check.First(
+		check.Number(r.Long, 1, api.MaxPlaces),
+		check.Number(r.Slope, 0, api.MaxIce),
+		check.Number(r.Thin, 0, api.MaxChange),
+		check.Number(r.Grow, 0, api.MaxChange),
+		check.Number(r.Every, 0, api.MaxHour),
+	)
+}
+
+// CheckLooks returns the first error of a survey, then that of the looks, otherwise OK.
+func CheckLooks(s api.Survey, l []api.Look) api.Errno {
+	if e := check.First(Check(s), check.Most(len(l), api.MaxLooks)); e != api.OK {
+		return e
+	}
+	r := lay(s)
+	for _, x := range l {
+		if e := checkLook(x, r.long()); e != api.OK {
+			return e
+		}
+	}
+	return r.clash(l)
+}
+
+// checkLook returns the first error of a look on a road of so many places.
+func checkLook(x api.Look, long int) api.Errno {
+	return check.First(
+		check.Kind(x.Kind, api.LookRadar),
+		check.Index(x.At, long),
+		checkHour(x.Hour),
+		check.Span(x.Value, 0, api.MaxIce),
+	)
+}
+
+// CheckMarks returns the first error of a survey, then that of the marks, otherwise OK.
+func CheckMarks(s api.Survey, m []api.Mark) api.Errno {
+	if e := check.First(Check(s), check.Most(len(m), api.MaxMarks)); e != api.OK {
+		return e
+	}
+	long := lay(s).long()
+	for _, x := range m {
+		if e := checkMark(x, long); e != api.OK {
+			return e
+		}
+	}
+	return api.OK
+}
+
+// checkMark returns the first error of a mark on a road of so many places.
+func checkMark(x api.Mark, long int) api.Errno {
+	return check.First(
+		check.Kind(x.Kind, api.MarkMend),
+		check.Index(x.From, long),
+		check.Index(x.To, long),
+		check.Order(x.From <= x.To),
+		checkHour(x.Hour),
+		check.Number(x.Speed, 0, api.MaxSpread),
+	)
+}
+
+func checkHour(hour int) api.Errno { return check.Number(hour, 0, api.MaxHour) }
+
+// checkTrack returns the first error of a track.
+func checkTrack(t api.Track) api.Errno {
+	e := check.First(check.Span(t.Speed, 1, fastest), check.Most(len(t.Echoes), api.MaxLooks))
+	if e != api.OK {
+		return e
+	}
+	for _, x := range t.Echoes {
+		e := check.First(
+			check.Number(x.At, 0, api.MaxPlaces-1),
+			checkHour(x.Hour),
+			check.Span(x.Time, 0, api.MaxEcho),
+		)
+		if e != api.OK {
+			return e
+		}
+	}
+	return api.OK
+}
