@@ -1,4 +1,4 @@
-// Package check has the checks of numbers and spans that all layers share.
+// Package check has the checks of numbers, spans and lists that all layers share.
 package check
 
 import "sastrugi/api"
@@ -25,6 +25,14 @@ func Number(n, low, high int) api.Errno {
 func Order(good bool) api.Errno {
 	if !good {
 		return api.ErrOrder
+	}
+	return api.OK
+}
+
+// Form returns ErrForm unless something is built as it has to be.
+func Form(good bool) api.Errno {
+	if !good {
+		return api.ErrForm
 	}
 	return api.OK
 }
@@ -69,4 +77,17 @@ func Range(s api.Span, low, high int) api.Errno {
 // Span returns the error of Range, then ErrOrder if Lo is above Hi.
 func Span(s api.Span, low, high int) api.Errno {
 	return First(Range(s, low, high), Order(s.Lo <= s.Hi))
+}
+
+// List returns ErrFull if a list has more than most things, otherwise the first error that each finds in one of them (which it is given with its number, from 0 on).
+func List[T any](list []T, most int, each func(i int, x T) api.Errno) api.Errno {
+	if e := Most(len(list), most); e != api.OK {
+		return e
+	}
+	for i, x := range list {
+		if e := each(i, x); e != api.OK {
+			return e
+		}
+	}
+	return api.OK
 }

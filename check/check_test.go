@@ -39,6 +39,9 @@ func TestNumbersAndCounts(t *testing.T) {
 	if Order(true) != api.OK || Order(false) != api.ErrOrder {
 		t.Error("Order is wrong")
 	}
+	if Form(true) != api.OK || Form(false) != api.ErrForm {
+		t.Error("Form is wrong")
+	}
 }
 
 func TestKindsAreFromOneOnAndIndicesFromZero(t *testing.T) {
@@ -82,6 +85,33 @@ func TestSpanChecksItsNumbersBeforeTheirOrder(t *testing.T) {
 		}
 		if e := Range(c.s, 0, 9); e != c.range_ {
 			t.Errorf("Range(%v) = %v, want %v", c.s, e, c.range_)
+		}
+	}
+}
+
+func TestListHasTheFirstErrorOfItsThings(t *testing.T) {
+	for _, c := range []struct {
+		list []int
+		want api.Errno
+		seen int
+	}{
+		{nil, api.OK, 0},
+		{[]int{}, api.OK, 0},
+		{[]int{5, 6, 7}, api.OK, 3},
+		{[]int{5, 6, 7, 0}, api.ErrFull, 0},
+		{[]int{5, 0, -1}, api.ErrKind, 2},
+		{[]int{5, -1, 0}, api.ErrRange, 2},
+	} {
+		seen := 0
+		e := List(c.list, 3, func(i, x int) api.Errno {
+			if i != seen || x != c.list[i] {
+				t.Errorf("List(%v) hands out %d with the number %d", c.list, x, i)
+			}
+			seen++
+			return First(Number(x, 0, 9), Kind(x, 9))
+		})
+		if e != c.want || seen != c.seen {
+			t.Errorf("List(%v) = %v after %d of them, want %v after %d", c.list, e, seen, c.want, c.seen)
 		}
 	}
 }

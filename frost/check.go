@@ -56,20 +56,13 @@ func CheckIce(x api.Ice) api.Errno {
 
 // checkDays returns the first error of a list of days.
 func checkDays(days []api.Weather) api.Errno {
-	if e := check.Most(len(days), api.MaxSeason); e != api.OK {
-		return e
-	}
-	for _, d := range days {
-		e := check.First(
+	return check.List(days, api.MaxSeason, func(_ int, d api.Weather) api.Errno {
+		return check.First(
 			check.Span(d.Cold, -api.MaxCold, api.MaxCold),
 			check.Span(d.Fall, 0, api.MaxFall),
 			check.Number(d.Water, 0, api.MaxWater),
 		)
-		if e != api.OK {
-			return e
-		}
-	}
-	return api.OK
+	})
 }
 
 // checkAll returns the first error of a law, ice and days.

@@ -40,14 +40,13 @@ func checkReach(r api.Reach) api.Errno {
 
 // CheckLooks returns the first error of a survey, then that of the looks, otherwise OK.
 func CheckLooks(s api.Survey, l []api.Look) api.Errno {
-	if e := check.First(Check(s), check.Most(len(l), api.MaxLooks)); e != api.OK {
+	if e := Check(s); e != api.OK {
 		return e
 	}
 	r := lay(s)
-	for _, x := range l {
-		if e := checkLook(x, r.long()); e != api.OK {
-			return e
-		}
+	e := check.List(l, api.MaxLooks, func(_ int, x api.Look) api.Errno { return checkLook(x, r.long()) })
+	if e != api.OK {
+		return e
 	}
 	return r.clash(l)
 }
@@ -64,16 +63,11 @@ func checkLook(x api.Look, long int) api.Errno {
 
 // CheckMarks returns the first error of a survey, then that of the marks, otherwise OK.
 func CheckMarks(s api.Survey, m []api.Mark) api.Errno {
-	if e := check.First(Check(s), check.Most(len(m), api.MaxMarks)); e != api.OK {
+	if e := Check(s); e != api.OK {
 		return e
 	}
 	long := lay(s).long()
-	for _, x := range m {
-		if e := checkMark(x, long); e != api.OK {
-			return e
-		}
-	}
-	return api.OK
+	return check.List(m, api.MaxMarks, func(_ int, x api.Mark) api.Errno { return checkMark(x, long) })
 }
 
 // checkMark returns the first error of a mark on a road of so many places.
@@ -92,19 +86,14 @@ func checkHour(hour int) api.Errno { return check.Number(hour, 0, api.MaxHour) }
 
 // checkTrack returns the first error of a track.
 func checkTrack(t api.Track) api.Errno {
-	e := check.First(check.Span(t.Speed, 1, fastest), check.Most(len(t.Echoes), api.MaxLooks))
-	if e != api.OK {
-		return e
-	}
-	for _, x := range t.Echoes {
-		e := check.First(
-			check.Number(x.At, 0, api.MaxPlaces-1),
-			checkHour(x.Hour),
-			check.Span(x.Time, 0, api.MaxEcho),
-		)
-		if e != api.OK {
-			return e
-		}
-	}
-	return api.OK
+	return check.First(check.Span(t.Speed, 1, fastest), check.List(t.Echoes, api.MaxLooks, checkEcho))
+}
+
+// checkEcho returns the first error of an echo.
+func checkEcho(_ int, x api.Echo) api.Errno {
+	return check.First(
+		check.Number(x.At, 0, api.MaxPlaces-1),
+		checkHour(x.Hour),
+		check.Span(x.Time, 0, api.MaxEcho),
+	)
 }
