@@ -13,61 +13,40 @@ func First(list ...api.Errno) api.Errno {
 	return api.OK
 }
 
-// Number returns ErrRange unless n is from low to high.
-func Number(n, low, high int) api.Errno {
-	if n < low || n > high {
-		return api.ErrRange
+// unless returns an error, or OK if all is well.
+func unless(good bool, e api.Errno) api.Errno {
+	if good {
+		return api.OK
 	}
-	return api.OK
+	return e
 }
+
+// Number returns ErrRange unless n is from low to high.
+func Number(n, low, high int) api.Errno { return unless(low <= n && n <= high, api.ErrRange) }
 
 // Order returns ErrOrder unless things are in order.
-func Order(good bool) api.Errno {
-	if !good {
-		return api.ErrOrder
-	}
-	return api.OK
-}
+func Order(good bool) api.Errno { return unless(good, api.ErrOrder) }
 
 // Form returns ErrForm unless something is built as it has to be.
-func Form(good bool) api.Errno {
-	if !good {
-		return api.ErrForm
-	}
-	return api.OK
-}
+func Form(good bool) api.Errno { return unless(good, api.ErrForm) }
+
+// Clash returns ErrClash unless things go together.
+func Clash(good bool) api.Errno { return unless(good, api.ErrClash) }
+
+// Late returns ErrLate unless something is in time.
+func Late(good bool) api.Errno { return unless(good, api.ErrLate) }
 
 // Kind returns ErrKind unless kind is from 1 to the last kind.
-func Kind(kind, last int) api.Errno {
-	if kind < 1 || kind > last {
-		return api.ErrKind
-	}
-	return api.OK
-}
+func Kind(kind, last int) api.Errno { return unless(1 <= kind && kind <= last, api.ErrKind) }
 
 // Index returns ErrMissing unless n is one of so many things, which are numbered from 0 on.
-func Index(n, count int) api.Errno {
-	if n < 0 || n >= count {
-		return api.ErrMissing
-	}
-	return api.OK
-}
+func Index(n, count int) api.Errno { return unless(0 <= n && n < count, api.ErrMissing) }
 
 // Some returns ErrShort if there is nothing of something.
-func Some(n int) api.Errno {
-	if n < 1 {
-		return api.ErrShort
-	}
-	return api.OK
-}
+func Some(n int) api.Errno { return unless(n > 0, api.ErrShort) }
 
 // Most returns ErrFull if there are more than most of something.
-func Most(n, most int) api.Errno {
-	if n > most {
-		return api.ErrFull
-	}
-	return api.OK
-}
+func Most(n, most int) api.Errno { return unless(n <= most, api.ErrFull) }
 
 // Range returns ErrRange unless both numbers of s are from low to high.
 func Range(s api.Span, low, high int) api.Errno {

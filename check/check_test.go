@@ -42,6 +42,12 @@ func TestNumbersAndCounts(t *testing.T) {
 	if Form(true) != api.OK || Form(false) != api.ErrForm {
 		t.Error("Form is wrong")
 	}
+	if Clash(true) != api.OK || Clash(false) != api.ErrClash {
+		t.Error("Clash is wrong")
+	}
+	if Late(true) != api.OK || Late(false) != api.ErrLate {
+		t.Error("Late is wrong")
+	}
 }
 
 func TestKindsAreFromOneOnAndIndicesFromZero(t *testing.T) {

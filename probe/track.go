@@ -60,20 +60,15 @@ func Read(text string) (t api.Track, row int, e api.Errno) {
 	if len(text) > api.MaxTrack {
 		return api.Track{}, 0, api.ErrLong
 	}
-	began := false
-	row = rows.Each(text, func(words []string) bool {
-		if !began {
-			began = true
-			return rows.Read(words, wordRadar, digits, &t.Speed.Lo, &t.Speed.Hi)
-		}
-		var x api.Echo
-		ok := rows.Read(words, wordEcho, digits, &x.At, &x.Hour, &x.Time.Lo, &x.Time.Hi)
-		t.Echoes = append(t.Echoes, x)
-		return ok
-	})
-	if text == "" {
-		row = 1
-	}
+	row = rows.Headed(text,
+		func(words []string) bool { return rows.Read(words, wordRadar, digits, &t.Speed.Lo, &t.Speed.Hi) },
+		func(words []string) bool {
+			var x api.Echo
+			ok := rows.Read(words, wordEcho, digits, &x.At, &x.Hour, &x.Time.Lo, &x.Time.Hi)
+			t.Echoes = append(t.Echoes, x)
+			return ok
+		},
+	)
 	if row > 0 {
 		return api.Track{}, row, api.ErrForm
 	}

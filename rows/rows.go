@@ -18,6 +18,19 @@ func Each(text string, take func(words []string) bool) int {
 	return 0
 }
 
+// Headed does what Each does for a text that has a first row of its own: head takes it, and take takes the others. If it is missing, its number, 1, is returned.
+func Headed(text string, head, take func(words []string) bool) int {
+	if text == "" {
+		return 1
+	}
+	now := head
+	return Each(text, func(words []string) bool {
+		ok := now(words)
+		now = take
+		return ok
+	})
+}
+
 // Line returns words as a row.
 func Line(words []string) string { return strings.Join(words, " ") + "\n" }
 

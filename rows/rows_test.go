@@ -31,6 +31,35 @@ func TestEachHandsOutRowsUntilOneIsWrong(t *testing.T) {
 	}
 }
 
+func TestHeadedHandsTheFirstRowToHead(t *testing.T) {
+	for _, c := range []struct {
+		text string
+		row  int
+		took string
+	}{
+		{"", 1, ""},
+		{"a", 1, ""},
+		{"a b\n", 0, "head a,b|"},
+		{"a b\nc\nd e\n", 0, "head a,b|c|d,e|"},
+		{"bad\nc\n", 1, "head bad|"},
+		{"a\nbad\nc\n", 2, "head a|bad|"},
+		{"a\nc\n\nd", 4, "head a|c||"},
+	} {
+		took := ""
+		take := func(words []string) bool {
+			took += strings.Join(words, ",") + "|"
+			return !slices.Contains(words, "bad")
+		}
+		row := Headed(c.text, func(words []string) bool {
+			took += "head "
+			return take(words)
+		}, take)
+		if row != c.row || took != c.took {
+			t.Errorf("Headed(%q) = %d, took %q, want %d, %q", c.text, row, took, c.row, c.took)
+		}
+	}
+}
+
 func TestLineIsWhatEachReads(t *testing.T) {
 	text := Line([]string{"day", "1"}) + Line([]string{"x"})
 	if text != "day 1\nx\n" {
