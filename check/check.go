@@ -33,6 +33,9 @@ func Form(good bool) api.Errno { return unless(good, api.ErrForm) }
 // Clash returns ErrClash unless things go together.
 func Clash(good bool) api.Errno { return unless(good, api.ErrClash) }
 
+// New returns ErrExists unless something is new.
+func New(good bool) api.Errno { return unless(good, api.ErrExists) }
+
 // Late returns ErrLate unless something is in time.
 func Late(good bool) api.Errno { return unless(good, api.ErrLate) }
 

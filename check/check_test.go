@@ -45,6 +45,9 @@ func TestNumbersAndCounts(t *testing.T) {
 	if Clash(true) != api.OK || Clash(false) != api.ErrClash {
 		t.Error("Clash is wrong")
 	}
+	if New(true) != api.OK || New(false) != api.ErrExists {
+		t.Error("New is wrong")
+	}
 	if Late(true) != api.OK || Late(false) != api.ErrLate {
 		t.Error("Late is wrong")
 	}
