@@ -46,7 +46,10 @@ func Kind(kind, last int) api.Errno { return unless(1 <= kind && kind <= last, a
 func Index(n, count int) api.Errno { return unless(0 <= n && n < count, api.ErrMissing) }
 
 // Some returns ErrShort if there is nothing of something.
-func Some(n int) api.Errno { return unless(n > 0, api.ErrShort) }
+func Some(n int) api.Errno { return Least(n, 1) }
+
+// Least returns ErrShort if there are fewer than least of something.
+func Least(n, least int) api.Errno { return unless(n >= least, api.ErrShort) }
 
 // Most returns ErrFull if there are more than most of something.
 func Most(n, most int) api.Errno { return unless(n <= most, api.ErrFull) }

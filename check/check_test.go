@@ -36,6 +36,9 @@ func TestNumbersAndCounts(t *testing.T) {
 	if Some(1) != api.OK || Some(0) != api.ErrShort {
 		t.Error("Some has a wrong bound")
 	}
+	if Least(2, 2) != api.OK || Least(1, 2) != api.ErrShort || Least(-1, 0) != api.ErrShort {
+		t.Error("Least has a wrong bound")
+	}
 	if Order(true) != api.OK || Order(false) != api.ErrOrder {
 		t.Error("Order is wrong")
 	}
