@@ -5,43 +5,8 @@ import (
 	"slices"
 
 	"sastrugi/api"
+	"sastrugi/choose"
 )
-
-// lists hands out all lists of so many numbers, each of which is one of those that may follow the ones before it: in lexicographic order, if these come in order. (It is always the same slice, with other numbers.)
-func lists(long int, follow func(list []int) iter.Seq[int]) iter.Seq[[]int] {
-	return func(yield func([]int) bool) {
-		list := make([]int, 0, long)
-		var extend func() bool
-		extend = func() bool {
-			if len(list) == long {
-				return yield(list)
-			}
-			for n := range follow(list) {
-				list = append(list, n)
-				if !extend() {
-					return false
-				}
-				list = list[:len(list)-1]
-			}
-			return true
-		}
-		extend()
-	}
-}
-
-// best returns the list that is worth most, of several ones the first, and what it is worth. Since none is worth more than full, those behind one that is worth so much are not looked at.
-func best(all iter.Seq[[]int], worth func(list []int) int, full int) (list []int, most int) {
-	most = -1
-	for x := range all {
-		if now := worth(x); now > most {
-			list, most = slices.Clone(x), now
-		}
-		if most == full {
-			break
-		}
-	}
-	return list, most
-}
 
 // none stands for no post.
 const none = -1
@@ -84,7 +49,7 @@ func (s savers) send() (posts []int, saved int) {
 	for _, of := range s {
 		full += min(len(of), 1)
 	}
-	return best(lists(len(s), s.follow), sent, full)
+	return choose.Best(choose.Lists(len(s), s.follow), sent, full)
 }
 
 // sent returns how many posts there are in a list.
@@ -134,7 +99,7 @@ func (p places) covered(list []int) int {
 
 // most returns so many places from which most of the spots are covered, and how many.
 func (p places) most(many, spots int) (list []int, covered int) {
-	return best(lists(many, p.follow), p.covered, spots)
+	return choose.Best(choose.Lists(many, p.follow), p.covered, spots)
 }
 
 // pick returns the sites at some places of a list.
