@@ -34,14 +34,17 @@ func Headed(text string, head, take func(words []string) bool) int {
 // Line returns words as a row.
 func Line(words []string) string { return strings.Join(words, " ") + "\n" }
 
-// Write returns a row that has a name and numbers.
-func Write(name string, numbers ...int) string {
+// Words returns the words of a row that has a name and numbers.
+func Words(name string, numbers ...int) []string {
 	words := []string{name}
 	for _, n := range numbers {
 		words = append(words, strconv.Itoa(n))
 	}
-	return Line(words)
+	return words
 }
+
+// Write returns a row that has a name and numbers.
+func Write(name string, numbers ...int) string { return Line(Words(name, numbers...)) }
 
 // Read reads the words of a row that has a name and numbers, each as Natural does, and tells whether it is one.
 func Read(words []string, name string, digits int, numbers ...*int) bool {

@@ -137,3 +137,16 @@ func TestNumbers(t *testing.T) {
 		t.Error(n, ok)
 	}
 }
+
+func TestWordsAreThoseOfTheRow(t *testing.T) {
+	for _, c := range []struct {
+		name    string
+		numbers []int
+		want    string
+	}{{"a", nil, "a"}, {"a", []int{0, -5, 12}, "a,0,-5,12"}} {
+		words := Words(c.name, c.numbers...)
+		if strings.Join(words, ",") != c.want || Write(c.name, c.numbers...) != Line(words) {
+			t.Errorf("Words(%s, %v) = %v, want %s", c.name, c.numbers, words, c.want)
+		}
+	}
+}
